@@ -11,6 +11,7 @@ import (
 	"roundelay/keys"
 	"roundelay/loom"
 	"roundelay/pick"
+	"roundelay/trial"
 )
 
 const limit = 1 << 32
@@ -47,7 +48,7 @@ func TestExample(t *testing.T) {
 		Counts: api.Counts{Read: 2, Swap: 2},
 		Ticks:  4,
 	}
-	if r := play(t, 2, calls, []int{0, 1, 1, 0}); !sameReport(r, want) {
+	if r := play(t, 2, calls, []int{0, 1, 1, 0}); !trial.SameReport(r, want) {
 		t.Errorf("%v; want %v", r, want)
 	}
 }
@@ -95,7 +96,7 @@ func TestErrorsWithoutAccess(t *testing.T) {
 			Ticks:  1,
 			Idle:   1,
 		}
-		if r := play(t, 1, []api.Call{q.call}, []int{0, 0}); !sameReport(r, want) {
+		if r := play(t, 1, []api.Call{q.call}, []int{0, 0}); !trial.SameReport(r, want) {
 			t.Errorf("%v: %v; want %v", q.call, r, want)
 		}
 	}
@@ -136,34 +137,16 @@ func TestSteps(t *testing.T) {
 		{Call: 1, Inv: 2, Steps: 1, Key: []int{4}},
 		{Call: 0, Inv: 3, Steps: 1, Key: []int{6}},
 	}
-	if !slices.EqualFunc(r.Events, want, sameEvent) {
+	if !trial.SameEvents(r.Events, want) {
 		t.Errorf("%v; want %v", r.Events, want)
 	}
 }
 
 // 7.1: the errors of a play, in their order, and no report with them (R7).
 func TestPlayErrors(t *testing.T) {
-	wrong := []api.Call{{}, {Thread: 2}}
-	many := append(slices.Clone(wrong), make([]api.Call, api.MaxCalls-1)...)
-	long := make([]int, api.MaxPicks+1)
-	for _, q := range []struct {
-		n     int
-		calls []api.Call
-		picks []int
-		want  api.Errno
-	}{
-		{0, nil, nil, api.ErrArg},
-		{-1, many, long, api.ErrArg},
-		{17, nil, nil, api.ErrArg},
-		{math.MaxInt, nil, long, api.ErrArg},
-		{math.MinInt, nil, nil, api.ErrArg},
-		{2, many, nil, api.ErrLong},
-		{2, wrong, long, api.ErrLong},
-		{2, wrong, long[1:], api.ErrArg},
-		{2, []api.Call{{Thread: -1}}, nil, api.ErrArg},
-	} {
-		if r, e := cons.Play(q.n, q.calls, q.picks); e != q.want || !sameReport(r, api.Report{}) {
-			t.Errorf("Play(%d, %d calls, %d picks): %v, %v; want %v", q.n, len(q.calls), len(q.picks), r, e, q.want)
+	for i, q := range trial.WrongPlays() {
+		if r, e := cons.Play(q.N, q.Calls, q.Picks); e != q.Want || !trial.SameReport(r, api.Report{}) {
+			t.Errorf("%d: %v, %v; want %v", i, r, e, q.Want)
 		}
 	}
 }
@@ -182,7 +165,7 @@ func TestPlayLimits(t *testing.T) {
 	if len(r.Events) != 1000 || r.Ticks != 2000 || r.Idle != api.MaxPicks-2000 || r.Events[999].Answer.Val != 3 {
 		t.Error(len(r.Events), r.Ticks, r.Idle)
 	}
-	if r := play(t, 1, nil, nil); !sameReport(r, api.Report{Words: []uint64{0}}) {
+	if r := play(t, 1, nil, nil); !trial.SameReport(r, api.Report{Words: []uint64{0}}) {
 		t.Error(r)
 	}
 }
@@ -199,9 +182,9 @@ func TestAllPlays(t *testing.T) {
 		{3, 7, []api.Call{proposal(0, 5), proposal(1, 6), proposal(2, 7), reading(2)}},
 		{3, 7, []api.Call{reading(2), reading(2), reading(2), proposal(1, 2), proposal(0, 1), {Obj: 1}}},
 	} {
-		for picks := range allPicks(q.n, q.picks) {
+		for picks := range trial.Rows(q.n, q.picks) {
 			r := play(t, q.n, q.calls, picks)
-			if want := stepByStep(t, q.n, q.calls, picks); !sameReport(r, want) {
+			if want := stepByStep(t, q.n, q.calls, picks); !trial.SameReport(r, want) {
 				t.Fatalf("%v of %v: %v; want %v", picks, q.calls, r, want)
 			}
 			checkAgreement(t, q.calls, r)
@@ -209,24 +192,6 @@ func TestAllPlays(t *testing.T) {
 			if t.Failed() {
 				t.Fatalf("%v of %v: %v", picks, q.calls, r)
 			}
-		}
-	}
-}
-
-// allPicks yields all rows of picks of n threads that have this length.
-func allPicks(n, length int) func(yield func([]int) bool) {
-	return func(yield func([]int) bool) {
-		row := make([]int, length)
-		for yield(slices.Clone(row)) {
-			i := 0
-			for i < length && row[i] == n-1 {
-				row[i] = 0
-				i++
-			}
-			if i == length {
-				return
-			}
-			row[i]++
 		}
 	}
 }
@@ -363,7 +328,7 @@ func TestElsewhere(t *testing.T) {
 	picks := []int{0, 1, 0, 0, 1, 1}
 	near := play(t, 2, calls, picks)
 	far, e := loom.Play(2, away, picks, loom.NewCells(2), cons.New(), cons.New())
-	if e != api.OK || len(far.Events) != 4 || !slices.EqualFunc(near.Events, far.Events, sameEvent) || near.Counts != far.Counts {
+	if e != api.OK || len(far.Events) != 4 || !trial.SameEvents(near.Events, far.Events) || near.Counts != far.Counts {
 		t.Errorf("%v; %v; %v", e, near, far)
 	}
 	if !slices.Equal(near.Words, []uint64{7}) || !slices.Equal(far.Words, []uint64{0, 0, 7, 0}) {
@@ -383,20 +348,7 @@ func TestReportsAlone(t *testing.T) {
 	first.Words[0] = 99
 	first.Events[0].Key[0] = 99
 	first.Events[1] = api.Event{}
-	if want := stepByStep(t, 2, calls, picks); !sameReport(second, want) {
+	if want := stepByStep(t, 2, calls, picks); !trial.SameReport(second, want) {
 		t.Errorf("%v; want %v", second, want)
 	}
-}
-
-// sameReport compares reports, where an empty list is as good as nil.
-func sameReport(a, b api.Report) bool {
-	return slices.EqualFunc(a.Events, b.Events, sameEvent) && slices.Equal(a.Words, b.Words) &&
-		a.Counts == b.Counts && a.Ticks == b.Ticks && a.Idle == b.Idle
-}
-
-// sameEvent compares events, where an empty list is as good as nil.
-func sameEvent(x, y api.Event) bool {
-	return x.Call == y.Call && x.Inv == y.Inv && x.Resp == y.Resp && x.Steps == y.Steps &&
-		x.Answer.Err == y.Answer.Err && x.Answer.Val == y.Answer.Val &&
-		slices.Equal(x.Answer.List, y.Answer.List) && slices.Equal(x.Key, y.Key)
 }

@@ -8,6 +8,7 @@ import (
 
 	"roundelay/api"
 	"roundelay/loom"
+	"roundelay/trial"
 )
 
 const top = math.MaxUint64
@@ -90,7 +91,7 @@ func TestCellExample(t *testing.T) {
 		{Call: 1, Inv: 1, Resp: 1, Steps: 1, Key: []int{2}},
 		{Call: 0, Inv: 2, Resp: 2, Steps: 1, Answer: api.Answer{Val: 7}, Key: []int{4}},
 	}
-	if !sameEvents(r.Events, want) || !slices.Equal(r.Words, []uint64{12}) || r.Ticks != 2 || r.Idle != 0 {
+	if !trial.SameEvents(r.Events, want) || !slices.Equal(r.Words, []uint64{12}) || r.Ticks != 2 || r.Idle != 0 {
 		t.Error(r)
 	}
 }
@@ -123,7 +124,7 @@ func TestCellErrors(t *testing.T) {
 	} {
 		r := playCells(t, 1, q.size, []api.Call{q.call}, []int{0, 0})
 		want := []api.Event{{Inv: 1, Resp: 1, Steps: 1, Answer: api.Answer{Err: q.want}, Key: []int{2}}}
-		if !sameEvents(r.Events, want) {
+		if !trial.SameEvents(r.Events, want) {
 			t.Errorf("%v of %d: %v; want %v", q.call, q.size, r.Events, q.want)
 		}
 		if r.Counts != (api.Counts{}) || r.Ticks != 1 || r.Idle != 1 || slices.Max(r.Words) != 0 {
@@ -212,7 +213,7 @@ func TestIdle(t *testing.T) {
 		{Call: 0, Inv: 2, Resp: 2, Steps: 1, Answer: api.Answer{Val: 2}, Key: []int{4}},
 		{Call: 2, Inv: 3, Resp: 3, Steps: 1, Answer: api.Answer{Val: 3}, Key: []int{6}},
 	}
-	if !sameEvents(r.Events, want) || r.Ticks != 3 || r.Idle != 7 || r.Words[0] != 7 {
+	if !trial.SameEvents(r.Events, want) || r.Ticks != 3 || r.Idle != 7 || r.Words[0] != 7 {
 		t.Error(r)
 	}
 }
@@ -221,7 +222,7 @@ func TestIdle(t *testing.T) {
 // operations one by one, in the order of their keys, and no more picks change them.
 func TestCellConsequences(t *testing.T) {
 	for seed := range 200 {
-		next := random(uint64(seed))
+		next := trial.Numbers(uint64(seed))
 		n, size := 1+next(4), 1+next(3)
 		var calls []api.Call
 		for range next(20) {
@@ -240,7 +241,7 @@ func TestCellConsequences(t *testing.T) {
 		}
 		checkOneByOne(t, size, calls, r)
 		part := playCells(t, n, size, calls, picks[:len(picks)/2])
-		if !sameEvents(part.Events, r.Events[:len(part.Events)]) {
+		if !trial.SameEvents(part.Events, r.Events[:len(part.Events)]) {
 			t.Errorf("seed %d: events changed: %v; %v", seed, part.Events, r.Events)
 		}
 	}
@@ -313,22 +314,5 @@ func TestCellsAlone(t *testing.T) {
 	}
 	if other.Words[0] != 3 || other.Events[0].Key[0] != 2 || other.Events[1].Answer.Val != 3 {
 		t.Error("two reports share memory:", other)
-	}
-}
-
-// sameEvents compares events, where an empty list is as good as nil.
-func sameEvents(a, b []api.Event) bool {
-	return slices.EqualFunc(a, b, func(x, y api.Event) bool {
-		return x.Call == y.Call && x.Inv == y.Inv && x.Resp == y.Resp && x.Steps == y.Steps &&
-			x.Answer.Err == y.Answer.Err && x.Answer.Val == y.Answer.Val &&
-			slices.Equal(x.Answer.List, y.Answer.List) && slices.Equal(x.Key, y.Key)
-	})
-}
-
-// random returns numbers that look like chance, from a rule.
-func random(seed uint64) func(below int) int {
-	return func(below int) int {
-		seed = seed*6364136223846793005 + 1442695040888963407
-		return int(seed>>33) % below
 	}
 }

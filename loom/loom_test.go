@@ -7,6 +7,7 @@ import (
 
 	"roundelay/api"
 	"roundelay/loom"
+	"roundelay/trial"
 )
 
 // row is an object of the tests: words that begin as 10, 11 and so on, whose
@@ -130,7 +131,7 @@ func TestPlay(t *testing.T) {
 		{Call: 7, Inv: 10, Resp: 10, Steps: 1, Answer: api.Answer{Err: api.ErrObj}, Key: []int{20}},
 		{Call: 8, Inv: 11, Resp: 12, Steps: 2, Answer: api.Answer{Val: 10, List: []uint64{10}}, Key: []int{22, 24}},
 	}
-	if e != api.OK || !sameEvents(r.Events, want) {
+	if e != api.OK || !trial.SameEvents(r.Events, want) {
 		t.Fatalf("%v\n%v\nwant\n%v", e, r.Events, want)
 	}
 	if !slices.Equal(r.Words, []uint64{7, 0, 11, 12}) || r.Ticks != 12 || r.Idle != 3 {
@@ -150,7 +151,7 @@ func TestNotResponded(t *testing.T) {
 		{Call: 1, Inv: 1, Steps: 2},
 		{Call: 0, Inv: 2, Steps: 1, Key: []int{4}},
 	}
-	if e != api.OK || !sameEvents(r.Events, want) || r.Ticks != 3 || r.Idle != 0 {
+	if e != api.OK || !trial.SameEvents(r.Events, want) || r.Ticks != 3 || r.Idle != 0 {
 		t.Error(e, r)
 	}
 }
@@ -158,7 +159,7 @@ func TestNotResponded(t *testing.T) {
 // 6.4: whatever picks follow, an operation that has responded keeps its event.
 func TestRespondedStays(t *testing.T) {
 	for seed := range 100 {
-		next := random(uint64(seed))
+		next := trial.Numbers(uint64(seed))
 		var calls []api.Call
 		for range 12 {
 			calls = append(calls, api.Call{Thread: next(3), Obj: next(3), Kind: next(4), A: uint64(next(2))})
@@ -236,7 +237,7 @@ func TestReportsAlone(t *testing.T) {
 		{Call: 3, Inv: 5, Steps: 1, Key: []int{10}},
 	}
 	third := l.Report()
-	if !sameEvents(second.Events, want) || !sameEvents(third.Events, want) || third.Words[0] != 11 {
+	if !trial.SameEvents(second.Events, want) || !trial.SameEvents(third.Events, want) || third.Words[0] != 11 {
 		t.Errorf("%v\n%v\nwant\n%v", second.Events, third.Events, want)
 	}
 }
@@ -250,7 +251,7 @@ func TestCellsElsewhere(t *testing.T) {
 	picks := make([]int, len(calls))
 	near, _ := loom.Play(1, calls, picks, row{}, loom.NewCells(2))
 	far, _ := loom.Play(1, calls, picks, row{size: 3}, loom.NewCells(2))
-	if len(far.Events) != 5 || !sameEvents(near.Events, far.Events) || far.Events[3].Answer.Val != 3 {
+	if len(far.Events) != 5 || !trial.SameEvents(near.Events, far.Events) || far.Events[3].Answer.Val != 3 {
 		t.Errorf("%v; %v", near.Events, far.Events)
 	}
 	if !slices.Equal(near.Words, []uint64{2, 3}) || !slices.Equal(far.Words, []uint64{10, 11, 12, 2, 3}) {

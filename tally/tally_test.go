@@ -11,6 +11,7 @@ import (
 	"roundelay/loom"
 	"roundelay/pick"
 	"roundelay/tally"
+	"roundelay/trial"
 )
 
 // play returns the play of a tally, which must have no error.
@@ -45,7 +46,7 @@ func TestExample(t *testing.T) {
 		Counts: api.Counts{Read: 3, Write: 1},
 		Ticks:  4,
 	}
-	if r := play(t, 2, calls, []int{0, 0, 1, 1}); !sameReport(r, want) {
+	if r := play(t, 2, calls, []int{0, 0, 1, 1}); !trial.SameReport(r, want) {
 		t.Errorf("%v; want %v", r, want)
 	}
 }
@@ -100,7 +101,7 @@ func TestErrorsWithoutAccess(t *testing.T) {
 			Ticks:  1,
 			Idle:   1,
 		}
-		if r := play(t, 2, []api.Call{q.call}, []int{0, 0}); !sameReport(r, want) {
+		if r := play(t, 2, []api.Call{q.call}, []int{0, 0}); !trial.SameReport(r, want) {
 			t.Errorf("%v: %v; want %v", q.call, r, want)
 		}
 	}
@@ -136,7 +137,7 @@ func TestCountSteps(t *testing.T) {
 		{Call: 1, Inv: 1, Resp: 3, Steps: 2, Key: []int{6}},
 		{Call: 0, Inv: 2, Steps: 1},
 	}
-	if r := play(t, 2, calls, picks[:3]); !slices.EqualFunc(r.Events, want, sameEvent) {
+	if r := play(t, 2, calls, picks[:3]); !trial.SameEvents(r.Events, want) {
 		t.Errorf("%v; want %v", r.Events, want)
 	}
 }
@@ -171,34 +172,16 @@ func TestSlowRead(t *testing.T) {
 // 8.3: a read that has not responded has no key.
 func TestPendingRead(t *testing.T) {
 	want := []api.Event{{Call: 0, Inv: 1, Steps: 2}}
-	if r := play(t, 3, []api.Call{reading(1)}, []int{1, 1}); !slices.EqualFunc(r.Events, want, sameEvent) {
+	if r := play(t, 3, []api.Call{reading(1)}, []int{1, 1}); !trial.SameEvents(r.Events, want) {
 		t.Errorf("%v; want %v", r.Events, want)
 	}
 }
 
 // 8.1: the errors of a play, in their order, and no report with them (R7).
 func TestPlayErrors(t *testing.T) {
-	wrong := []api.Call{{}, {Thread: 2}}
-	many := append(slices.Clone(wrong), make([]api.Call, api.MaxCalls-1)...)
-	long := make([]int, api.MaxPicks+1)
-	for _, q := range []struct {
-		n     int
-		calls []api.Call
-		picks []int
-		want  api.Errno
-	}{
-		{0, nil, nil, api.ErrArg},
-		{-1, many, long, api.ErrArg},
-		{17, nil, nil, api.ErrArg},
-		{math.MaxInt, nil, long, api.ErrArg},
-		{math.MinInt, nil, nil, api.ErrArg},
-		{2, many, nil, api.ErrLong},
-		{2, wrong, long, api.ErrLong},
-		{2, wrong, long[1:], api.ErrArg},
-		{2, []api.Call{{Thread: -1}}, nil, api.ErrArg},
-	} {
-		if r, e := tally.Play(q.n, q.calls, q.picks); e != q.want || !sameReport(r, api.Report{}) {
-			t.Errorf("Play(%d, %d calls, %d picks): %v, %v; want %v", q.n, len(q.calls), len(q.picks), r, e, q.want)
+	for i, q := range trial.WrongPlays() {
+		if r, e := tally.Play(q.N, q.Calls, q.Picks); e != q.Want || !trial.SameReport(r, api.Report{}) {
+			t.Errorf("%d: %v, %v; want %v", i, r, e, q.Want)
 		}
 	}
 }
@@ -222,7 +205,7 @@ func TestPlayLimits(t *testing.T) {
 	if last.Answer.Val != 999 || !slices.Equal(last.Key, []int{2 * 1999, 2 * 2014}) {
 		t.Error(last)
 	}
-	if r := play(t, 3, nil, nil); !sameReport(r, api.Report{Words: []uint64{0, 0, 0}}) {
+	if r := play(t, 3, nil, nil); !trial.SameReport(r, api.Report{Words: []uint64{0, 0, 0}}) {
 		t.Error(r)
 	}
 }
@@ -239,7 +222,7 @@ func TestAllPlays(t *testing.T) {
 		{3, 8, []api.Call{counting(0), counting(1), reading(2), {Obj: 1}, reading(1)}},
 		{4, 7, []api.Call{counting(0), counting(1), counting(2), reading(3)}},
 	} {
-		for picks := range allPicks(q.n, q.picks) {
+		for picks := range trial.Rows(q.n, q.picks) {
 			checkPlay(t, q.n, q.calls, picks)
 		}
 	}
@@ -248,7 +231,7 @@ func TestAllPlays(t *testing.T) {
 // 8.1 to 8.6: long plays of many threads.
 func TestLongPlays(t *testing.T) {
 	for seed := range 40 {
-		next := random(uint64(seed))
+		next := trial.Numbers(uint64(seed))
 		n := 1 + next(api.MaxThreads)
 		var calls []api.Call
 		for range next(api.MaxCalls + 1) {
@@ -267,39 +250,13 @@ func TestLongPlays(t *testing.T) {
 func checkPlay(t *testing.T, n int, calls []api.Call, picks []int) {
 	t.Helper()
 	r := play(t, n, calls, picks)
-	if want := stepByStep(t, n, calls, picks); !sameReport(r, want) {
+	if want := stepByStep(t, n, calls, picks); !trial.SameReport(r, want) {
 		t.Fatalf("%v of %v: %v; want %v", picks, calls, r, want)
 	}
 	checkSums(t, n, calls, r)
 	checkOneByOne(t, calls, r)
 	if t.Failed() {
 		t.Fatalf("%v of %v: %v", picks, calls, r)
-	}
-}
-
-// allPicks yields all rows of picks of n threads that have this length.
-func allPicks(n, length int) func(yield func([]int) bool) {
-	return func(yield func([]int) bool) {
-		row := make([]int, length)
-		for yield(slices.Clone(row)) {
-			i := 0
-			for i < length && row[i] == n-1 {
-				row[i] = 0
-				i++
-			}
-			if i == length {
-				return
-			}
-			row[i]++
-		}
-	}
-}
-
-// random returns numbers that look like chance, from a rule.
-func random(seed uint64) func(below int) int {
-	return func(below int) int {
-		seed = seed*6364136223846793005 + 1442695040888963407
-		return int(seed>>33) % below
 	}
 }
 
@@ -469,7 +426,7 @@ func TestElsewhere(t *testing.T) {
 		away[i].Obj = 2
 	}
 	far, e := loom.Play(2, away, picks, tally.New(), loom.NewCells(1), tally.New())
-	if e != api.OK || len(far.Events) != 4 || !slices.EqualFunc(near.Events, far.Events, sameEvent) || near.Counts != far.Counts {
+	if e != api.OK || len(far.Events) != 4 || !trial.SameEvents(near.Events, far.Events) || near.Counts != far.Counts {
 		t.Errorf("%v; %v; %v", e, near, far)
 	}
 	if !slices.Equal(near.Words, []uint64{0, 2}) || !slices.Equal(far.Words, []uint64{0, 0, 0, 0, 2}) {
@@ -508,20 +465,7 @@ func TestReportsAlone(t *testing.T) {
 	first.Words[0] = 99
 	first.Events[1].Key[0] = 99
 	first.Events[0] = api.Event{}
-	if want := stepByStep(t, 2, calls, picks); !sameReport(second, want) {
+	if want := stepByStep(t, 2, calls, picks); !trial.SameReport(second, want) {
 		t.Errorf("%v; want %v", second, want)
 	}
-}
-
-// sameReport compares reports, where an empty list is as good as nil.
-func sameReport(a, b api.Report) bool {
-	return slices.EqualFunc(a.Events, b.Events, sameEvent) && slices.Equal(a.Words, b.Words) &&
-		a.Counts == b.Counts && a.Ticks == b.Ticks && a.Idle == b.Idle
-}
-
-// sameEvent compares events, where an empty list is as good as nil.
-func sameEvent(x, y api.Event) bool {
-	return x.Call == y.Call && x.Inv == y.Inv && x.Resp == y.Resp && x.Steps == y.Steps &&
-		x.Answer.Err == y.Answer.Err && x.Answer.Val == y.Answer.Val &&
-		slices.Equal(x.Answer.List, y.Answer.List) && slices.Equal(x.Key, y.Key)
 }

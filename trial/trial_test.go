@@ -1,0 +1,124 @@
+package trial_test
+
+import (
+	"slices"
+	"testing"
+
+	"roundelay/api"
+	"roundelay/trial"
+)
+
+// All rows come, each once, and a range that stops early gets no more.
+func TestRows(t *testing.T) {
+	var l [][]int
+	for row := range trial.Rows(3, 2) {
+		if slices.ContainsFunc(l, func(r []int) bool { return slices.Equal(r, row) }) {
+			t.Error("twice:", row)
+		}
+		l = append(l, row)
+	}
+	if len(l) != 9 {
+		t.Error(l)
+	}
+	for range trial.Rows(2, 1) {
+		break
+	}
+}
+
+// Reports that differ anywhere are not the same; empty lists are.
+func TestSameReport(t *testing.T) {
+	one := func() api.Report {
+		return api.Report{
+			Events: []api.Event{{Call: 1, Inv: 2, Resp: 3, Steps: 2, Answer: api.Answer{Val: 4, List: []uint64{5}}, Key: []int{6}}},
+			Words:  []uint64{7},
+		}
+	}
+	if !trial.SameReport(one(), one()) || !trial.SameReport(api.Report{}, api.Report{Words: []uint64{}}) {
+		t.Error("the same reports differ")
+	}
+	for i, change := range []func(r *api.Report){
+		func(r *api.Report) { r.Events = nil },
+		func(r *api.Report) { r.Events[0].Call = 0 },
+		func(r *api.Report) { r.Events[0].Inv = 0 },
+		func(r *api.Report) { r.Events[0].Resp = 0 },
+		func(r *api.Report) { r.Events[0].Steps = 0 },
+		func(r *api.Report) { r.Events[0].Answer.Err = api.ErrArg },
+		func(r *api.Report) { r.Events[0].Answer.Val = 0 },
+		func(r *api.Report) { r.Events[0].Answer.List[0] = 0 },
+		func(r *api.Report) { r.Events[0].Key[0] = 0 },
+		func(r *api.Report) { r.Words[0] = 0 },
+		func(r *api.Report) { r.Counts.Read = 1 },
+		func(r *api.Report) { r.Ticks = 1 },
+		func(r *api.Report) { r.Idle = 1 },
+	} {
+		r := one()
+		change(&r)
+		if trial.SameReport(r, one()) {
+			t.Errorf("change %d makes no difference", i)
+		}
+	}
+}
+
+// Keys order the events that have one; one outside of its event is told.
+func TestInOrder(t *testing.T) {
+	r := api.Report{Ticks: 5, Events: []api.Event{
+		{Call: 0, Inv: 1, Resp: 4, Key: []int{8}},
+		{Call: 1, Inv: 2, Key: []int{5, 2}},
+		{Call: 2, Inv: 3},
+		{Call: 3, Inv: 5, Resp: 5, Key: []int{10}},
+	}}
+	l, ok := trial.InOrder(r)
+	if !ok || len(l) != 3 || l[0].Call != 1 || l[1].Call != 0 || l[2].Call != 3 {
+		t.Error(l, ok)
+	}
+	for _, key := range [][]int{nil, {1}, {9}} {
+		r.Events[0].Key = key
+		if l, ok := trial.InOrder(r); ok {
+			t.Errorf("key %v: %v", key, l)
+		}
+	}
+}
+
+// A play that is made access by access: two threads swap the same word, and
+// one adds to another one, and reads it.
+func TestPlay(t *testing.T) {
+	next := func(c api.Call, results []uint64) (trial.Access, api.Answer, bool) {
+		switch {
+		case c.Kind == 0 && len(results) == 0:
+			return trial.Access{Kind: 'C', At: 0, X: 0, Y: c.A}, api.Answer{}, false
+		case c.Kind == 1 && len(results) == 0:
+			return trial.Access{Kind: 'A', At: 1, X: c.A}, api.Answer{}, false
+		case c.Kind == 1 && len(results) == 1:
+			return trial.Access{Kind: 'W', At: 0, X: 9}, api.Answer{}, false
+		case c.Kind == 1 && len(results) == 2:
+			return trial.Access{Kind: 'R', At: 1}, api.Answer{}, false
+		case c.Kind == 2:
+			return trial.Access{}, api.Answer{Err: api.ErrKind}, true
+		}
+		return trial.Access{}, api.Answer{Val: results[len(results)-1]}, true
+	}
+	calls := []api.Call{{Thread: 0, A: 3}, {Thread: 1, A: 4}, {Thread: 0, Kind: 1, A: 5}, {Thread: 1, Kind: 2}, {Thread: 0, Kind: 1, A: 1}}
+	w, ok := trial.Play(2, 2, calls, []int{0, 1, 0, 0, 1, 0, 1, 0}, next)
+	want := api.Report{
+		Events: []api.Event{
+			{Call: 0, Inv: 1, Resp: 1, Steps: 1, Answer: api.Answer{Val: 1}},
+			{Call: 1, Inv: 2, Resp: 2, Steps: 1},
+			{Call: 2, Inv: 3, Resp: 6, Steps: 3, Answer: api.Answer{Val: 5}},
+			{Call: 3, Inv: 5, Resp: 5, Steps: 1, Answer: api.Answer{Err: api.ErrKind}},
+			{Call: 4, Inv: 7, Steps: 1},
+		},
+		Words:  []uint64{9, 6},
+		Counts: api.Counts{Read: 1, Write: 1, Swap: 2, Add: 2},
+		Ticks:  7,
+		Idle:   1,
+	}
+	if !ok || !trial.SameReport(w.Report, want) || len(w.Made) != 5 {
+		t.Fatalf("%v, %v; want %v", w, ok, want)
+	}
+	if l := trial.Results(w.Made[2]); !slices.Equal(l, []uint64{0, 0, 5}) || w.Made[2][2].Tick != 6 || len(w.Made[3]) != 0 {
+		t.Error(w.Made)
+	}
+	if w, ok := trial.Play(0, 1, nil, nil, next); ok || len(w.Report.Words) != 0 {
+		t.Error(w)
+	}
+}
