@@ -122,3 +122,38 @@ func TestPlay(t *testing.T) {
 		t.Error(w)
 	}
 }
+
+// A program that is written straight on makes the same play as one that is told
+// access by access, and goes on with the results of its accesses.
+func TestStraight(t *testing.T) {
+	next := trial.Straight(func(c api.Call, access func(trial.Access) uint64) api.Answer {
+		if c.Kind != 0 {
+			return api.Answer{Err: api.ErrKind}
+		}
+		var sum uint64
+		for at := range 2 {
+			sum += access(trial.Access{Kind: 'R', At: at})
+		}
+		if sum > 3 {
+			access(trial.Access{Kind: 'W', At: 0, X: 9})
+		}
+		access(trial.Access{Kind: 'A', At: 1, X: sum + c.A})
+		return api.Answer{Val: sum}
+	})
+	calls := []api.Call{{A: 4}, {A: 1}, {Kind: 1}, {}}
+	w, ok := trial.Play(1, 2, calls, make([]int, 9), next)
+	want := api.Report{
+		Events: []api.Event{
+			{Call: 0, Inv: 1, Resp: 3, Steps: 3},
+			{Call: 1, Inv: 4, Resp: 7, Steps: 4, Answer: api.Answer{Val: 4}},
+			{Call: 2, Inv: 8, Resp: 8, Steps: 1, Answer: api.Answer{Err: api.ErrKind}},
+			{Call: 3, Inv: 9, Steps: 1},
+		},
+		Words:  []uint64{9, 9},
+		Counts: api.Counts{Read: 5, Write: 1, Add: 2},
+		Ticks:  9,
+	}
+	if !ok || !trial.SameReport(w.Report, want) {
+		t.Errorf("%v, %v; want %v", w, ok, want)
+	}
+}

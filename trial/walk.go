@@ -24,6 +24,27 @@ type Made struct {
 // next access, or, if it is done, with the answer.
 type Next func(c api.Call, results []uint64) (a Access, answer api.Answer, done bool)
 
+// Straight returns a Next from a program that makes its accesses one after the
+// other, by a function that returns their results. The program is executed anew
+// each time; an access whose result is not known yet has the result 0, and what
+// the program does from there on is ignored, but it must end.
+func Straight(program func(c api.Call, access func(Access) uint64) api.Answer) Next {
+	return func(c api.Call, results []uint64) (Access, api.Answer, bool) {
+		var made []Access
+		answer := program(c, func(a Access) uint64 {
+			made = append(made, a)
+			if len(made) > len(results) {
+				return 0
+			}
+			return results[len(made)-1]
+		})
+		if len(made) > len(results) {
+			return made[len(results)], api.Answer{}, false
+		}
+		return Access{}, answer, true
+	}
+}
+
 // Walk is a play that was made access by access.
 type Walk struct {
 	Report api.Report // its events have no keys
