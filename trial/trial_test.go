@@ -5,6 +5,7 @@ import (
 	"testing"
 
 	"roundelay/api"
+	"roundelay/tally"
 	"roundelay/trial"
 )
 
@@ -155,5 +156,28 @@ func TestStraight(t *testing.T) {
 	}
 	if !ok || !trial.SameReport(w.Report, want) {
 		t.Errorf("%v, %v; want %v", w, ok, want)
+	}
+}
+
+// A course picks threads for steps, and for whole calls.
+func TestCourse(t *testing.T) {
+	calls := []api.Call{{Thread: 0}, {Thread: 1, Kind: 1}, {Thread: 0, Kind: 9}, {Thread: 0}}
+	c, ok := trial.NewCourse(2, calls, tally.New())
+	if !ok {
+		t.Fatal("no course")
+	}
+	c.Step(1, 1)
+	if !c.Finish(0) || !c.Finish(0) || !slices.Equal(c.Picks, []int{1, 0, 0, 0}) {
+		t.Error(c.Picks)
+	}
+	c.Step(0, 1)
+	if !c.Finish(1) || !c.Finish(0) || !slices.Equal(c.Picks, []int{1, 0, 0, 0, 0, 1, 0}) {
+		t.Error(c.Picks)
+	}
+	if c.Finish(0) || c.Finish(1) || len(c.Picks) != 7 {
+		t.Error(c.Picks)
+	}
+	if _, ok := trial.NewCourse(0, nil); ok {
+		t.Error("a course without threads")
 	}
 }
