@@ -124,6 +124,25 @@ func TestPlay(t *testing.T) {
 	}
 }
 
+// A play that is made access by access from words that are not 0, which it does
+// not change.
+func TestPlayFrom(t *testing.T) {
+	words := []uint64{5, 6}
+	next := trial.Straight(func(c api.Call, access func(trial.Access) uint64) api.Answer {
+		return api.Answer{Val: access(trial.Access{Kind: 'C', At: 1, X: 6, Y: c.A})}
+	})
+	w, ok := trial.PlayFrom(1, words, []api.Call{{A: 7}, {A: 8}}, []int{0, 0}, next)
+	if !ok || !slices.Equal(w.Report.Words, []uint64{5, 7}) || w.Report.Events[0].Answer.Val != 1 || w.Report.Events[1].Answer.Val != 0 {
+		t.Error(w, ok)
+	}
+	if !slices.Equal(words, []uint64{5, 6}) {
+		t.Error(words)
+	}
+	if w, ok := trial.PlayFrom(0, words, nil, nil, next); ok || len(w.Report.Words) != 0 {
+		t.Error(w)
+	}
+}
+
 // A program that is written straight on makes the same play as one that is told
 // access by access, and goes on with the results of its accesses.
 func TestStraight(t *testing.T) {

@@ -1,6 +1,8 @@
 package trial
 
 import (
+	"slices"
+
 	"roundelay/api"
 	"roundelay/pick"
 )
@@ -30,16 +32,20 @@ type Next func(c api.Call, results []uint64) (a Access, answer api.Answer, done 
 // the program does from there on is ignored, but it must end.
 func Straight(program func(c api.Call, access func(Access) uint64) api.Answer) Next {
 	return func(c api.Call, results []uint64) (Access, api.Answer, bool) {
-		var made []Access
+		made := 0
+		var unknown Access // the first one whose result is not known
 		answer := program(c, func(a Access) uint64 {
-			made = append(made, a)
-			if len(made) > len(results) {
-				return 0
+			made++
+			if made <= len(results) {
+				return results[made-1]
 			}
-			return results[len(made)-1]
+			if made == len(results)+1 {
+				unknown = a
+			}
+			return 0
 		})
-		if len(made) > len(results) {
-			return made[len(results)], api.Answer{}, false
+		if made > len(results) {
+			return unknown, api.Answer{}, false
 		}
 		return Access{}, answer, true
 	}
@@ -51,14 +57,20 @@ type Walk struct {
 	Made   [][]Made   // for each event
 }
 
-// Play makes the accesses of calls on an object of this size, and returns
-// nothing if there is no such play.
+// Play makes the accesses of calls on an object of this size whose words are 0,
+// and returns nothing if there is no such play.
 func Play(n, size int, calls []api.Call, picks []int, next Next) (Walk, bool) {
+	return PlayFrom(n, make([]uint64, size), calls, picks, next)
+}
+
+// PlayFrom makes the accesses of calls on an object that has these words, and
+// returns nothing if there is no such play.
+func PlayFrom(n int, words []uint64, calls []api.Call, picks []int, next Next) (Walk, bool) {
 	line, e := pick.New(n, calls)
 	if e != api.OK {
 		return Walk{}, false
 	}
-	w := Walk{Report: api.Report{Words: make([]uint64, size)}}
+	w := Walk{Report: api.Report{Words: slices.Clone(words)}}
 	current := map[int]int{}
 	for _, p := range picks {
 		call, ok := line.Now(p)
