@@ -1,7 +1,6 @@
 package bound_test
 
 import (
-	"slices"
 	"testing"
 
 	"roundelay/api"
@@ -10,37 +9,6 @@ import (
 	"roundelay/table"
 	"roundelay/trial"
 )
-
-// chance makes numbers below another one.
-type chance func(below int) int
-
-// callsOn makes calls on objects, by all threads.
-func callsOn(number chance, n int, specs []api.Spec, count int) []api.Call {
-	var calls []api.Call
-	for range count {
-		obj := number(len(specs))
-		calls = append(calls, api.Call{
-			Thread: number(n),
-			Obj:    obj,
-			Kind:   number(table.Kinds(specs[obj])),
-			A:      uint64(number(2)),
-			B:      uint64(number(3)),
-			C:      uint64(number(3)),
-		})
-	}
-	return calls
-}
-
-// bursts makes picks: a thread is mostly picked several times one after the other,
-// so that some operations are overtaken by many others.
-func bursts(number chance, n, length int) []int {
-	longest := 1 + number(30)
-	var picks []int
-	for len(picks) < length {
-		picks = append(picks, slices.Repeat([]int{number(n)}, 1+number(longest))...)
-	}
-	return picks[:length]
-}
 
 // mostOf returns the bound of a call.
 func mostOf(t *testing.T, n int, specs []api.Spec, c api.Call) int {
@@ -139,24 +107,15 @@ func checkAlone(t *testing.T, n int, specs []api.Spec, calls []api.Call, picks [
 	}
 }
 
-// each returns objects of each Kind.
-func each() []api.Spec {
-	return []api.Spec{
-		{Kind: api.Cell, P: 3}, {Kind: api.Cons}, {Kind: api.Tally}, {Kind: api.Adder}, {Kind: api.Max, P: 1}, {Kind: api.Max, P: 3},
-		{Kind: api.Snap, P: 4}, {Kind: api.Multi, P: 2, Q: 6}, {Kind: api.Univ, P: 1, Q: 8}, {Kind: api.Univ, P: 3, Q: 30},
-		{Kind: api.Queue, P: 2}, {Kind: api.Queue, P: 3, Q: 1}, {Kind: api.Queue, P: 4, Q: 3}, {Kind: api.Pin, P: 1}, {Kind: api.Pin, P: 3},
-	}
-}
-
 // 24.4: plays of single objects, by a few threads and by many.
 func TestPlays(t *testing.T) {
-	number := chance(trial.Numbers(27))
-	for _, s := range each() {
+	number := trial.Numbers(27)
+	for _, s := range trial.Specs() {
 		specs := []api.Spec{s}
 		for _, n := range []int{1, 2, 3, 4, 7, 16} {
 			for range 60 {
-				calls := callsOn(number, n, specs, 6*n)
-				picks := bursts(number, n, 30*len(calls))
+				calls := trial.CallsOn(number, n, specs, 6*n)
+				picks := trial.Bursts(number, n, 30*len(calls))
 				checkSteps(t, n, specs, calls, played(t, n, specs, calls, picks).Report())
 			}
 		}
@@ -166,24 +125,20 @@ func TestPlays(t *testing.T) {
 // 24.4: plays of several objects, after which each thread responds alone,
 // wherever the others have stopped.
 func TestAlone(t *testing.T) {
-	number := chance(trial.Numbers(28))
-	all := each()
+	number := trial.Numbers(28)
 	for range 2000 {
 		n := 1 + number(4)
-		var specs []api.Spec
-		for range 1 + number(4) {
-			specs = append(specs, all[number(len(all))])
-		}
-		calls := callsOn(number, n, specs, 8*n)
-		checkAlone(t, n, specs, calls, bursts(number, n, number(100*n)))
+		specs := trial.SomeSpecs(number, 1+number(4))
+		calls := trial.CallsOn(number, n, specs, 8*n)
+		checkAlone(t, n, specs, calls, trial.Bursts(number, n, number(100*n)))
 	}
 }
 
 // 24.1, 24.4: operations of most objects do make as many steps in some plays, so
 // no smaller bound holds.
 func TestReached(t *testing.T) {
-	number := chance(trial.Numbers(29))
-	for _, s := range each() {
+	number := trial.Numbers(29)
+	for _, s := range trial.Specs() {
 		if s.Kind == api.Univ || s.Kind == api.Queue {
 			continue
 		}
@@ -191,8 +146,8 @@ func TestReached(t *testing.T) {
 		for n := 1; n <= 3; n++ {
 			reached := make([]int, table.Kinds(s))
 			for range 200 {
-				calls := callsOn(number, n, specs, 10*n)
-				r := played(t, n, specs, calls, bursts(number, n, 40*len(calls))).Report()
+				calls := trial.CallsOn(number, n, specs, 10*n)
+				r := played(t, n, specs, calls, trial.Bursts(number, n, 40*len(calls))).Report()
 				for _, x := range r.Events {
 					kind := calls[x.Call].Kind
 					reached[kind] = max(reached[kind], x.Steps)
@@ -209,19 +164,18 @@ func TestReached(t *testing.T) {
 
 // 24.2, 24.4: no operation of any play makes more steps than the bound of all.
 func TestAllOfPlays(t *testing.T) {
-	number := chance(trial.Numbers(30))
-	all := each()
+	number := trial.Numbers(30)
 	for range 300 {
 		n := 1 + number(4)
-		specs := []api.Spec{all[number(len(all))], all[number(len(all))]}
-		calls := callsOn(number, n, specs, 8*n)
+		specs := trial.SomeSpecs(number, 2)
+		calls := trial.CallsOn(number, n, specs, 8*n)
 		// An operation of an object that does not exist takes a step, too.
 		calls = append(calls, api.Call{Obj: 2})
 		most, e := bound.All(n, specs)
 		if e != api.OK {
 			t.Fatalf("All(%d, %v): %v", n, specs, e)
 		}
-		for _, x := range played(t, n, specs, calls, bursts(number, n, 30*len(calls))).Report().Events {
+		for _, x := range played(t, n, specs, calls, trial.Bursts(number, n, 30*len(calls))).Report().Events {
 			if x.Steps > most {
 				t.Fatalf("%v: %v; the bound is %d", specs, x, most)
 			}

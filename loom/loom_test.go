@@ -173,9 +173,12 @@ func TestRespondedStays(t *testing.T) {
 		for range 40 {
 			p := next(4)
 			picks = append(picks, p)
-			l.Pick(p)
+			told := l.Pick(p)
 			r := l.Report()
 			checkStep(t, before, r)
+			if responses(r)-responses(before) > 0 != told {
+				t.Errorf("the pick told %v: %v; then %v", told, before, r)
+			}
 			before = r
 		}
 		r, e := loom.Play(3, calls, picks, row{size: 2}, row{size: 4})
@@ -183,6 +186,17 @@ func TestRespondedStays(t *testing.T) {
 			t.Errorf("seed %d: a play as a whole: %v; pick by pick: %v", seed, r, before)
 		}
 	}
+}
+
+// responses returns how many operations have responded.
+func responses(r api.Report) int {
+	count := 0
+	for _, x := range r.Events {
+		if x.Resp != 0 {
+			count++
+		}
+	}
+	return count
 }
 
 // checkStep checks what one pick did.
@@ -256,6 +270,18 @@ func TestCellsElsewhere(t *testing.T) {
 	}
 	if !slices.Equal(near.Words, []uint64{2, 3}) || !slices.Equal(far.Words, []uint64{10, 11, 12, 2, 3}) {
 		t.Errorf("%v; %v", near.Words, far.Words)
+	}
+}
+
+// 6.1: what is wrong with a play apart from its objects can be asked alone.
+func TestCheck(t *testing.T) {
+	for _, w := range trial.WrongPlays() {
+		if e := loom.Check(w.N, w.Calls, w.Picks); e != w.Want {
+			t.Errorf("%d threads, %d calls, %d picks: %v; want %v", w.N, len(w.Calls), len(w.Picks), e, w.Want)
+		}
+	}
+	if e := loom.Check(16, make([]api.Call, api.MaxCalls), make([]int, api.MaxPicks)); e != api.OK {
+		t.Error(e)
 	}
 }
 

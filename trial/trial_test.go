@@ -5,6 +5,7 @@ import (
 	"testing"
 
 	"roundelay/api"
+	"roundelay/table"
 	"roundelay/tally"
 	"roundelay/trial"
 )
@@ -198,5 +199,34 @@ func TestCourse(t *testing.T) {
 	}
 	if _, ok := trial.NewCourse(0, nil); ok {
 		t.Error("a course without threads")
+	}
+}
+
+// Calls are of operations that exist, by threads that exist; spoiled ones differ
+// somewhere, and picks are as many as are asked for.
+func TestObjects(t *testing.T) {
+	number := trial.Numbers(5)
+	specs := trial.SomeSpecs(number, 5)
+	calls := trial.CallsOn(number, 3, specs, 200)
+	if len(specs) != 5 || len(calls) != 200 {
+		t.Fatal(len(specs), len(calls))
+	}
+	seen := [3]int{}
+	for _, c := range calls {
+		seen[c.Thread]++
+		if c.Obj < 0 || c.Obj >= 5 || c.Kind < 0 || c.Kind >= table.Kinds(specs[c.Obj]) {
+			t.Error(c)
+		}
+	}
+	if min(seen[0], seen[1], seen[2]) < 20 {
+		t.Error(seen)
+	}
+	given := slices.Clone(calls)
+	if spoiled := trial.Spoiled(number, calls); slices.Equal(spoiled, given) || !slices.Equal(calls, given) {
+		t.Error(spoiled)
+	}
+	picks := trial.Bursts(number, 3, 100)
+	if len(picks) != 100 || slices.Min(picks) != 0 || slices.Max(picks) != 2 || len(trial.Bursts(number, 3, 0)) != 0 {
+		t.Error(picks)
 	}
 }
