@@ -39,30 +39,6 @@ func checkWhole(t *testing.T, p played) {
 	t.Fatalf("%d threads, %v, %v: %v: %d is wrong, %v", p.n, p.specs, p.calls, p.Report, i, e)
 }
 
-// anySpec makes an object of any Kind, mostly with few records, entries, or places.
-func anySpec(number func(below int) int) api.Spec {
-	some := func(most int) int {
-		if number(4) > 0 {
-			most = min(most, 4)
-		}
-		return 1 + number(most)
-	}
-	s := api.Spec{Kind: number(10), P: some(8), Q: some(64)}
-	switch s.Kind {
-	case api.Cell, api.Snap:
-		s.P = some(64)
-	case api.Max:
-		s.P = some(12)
-	case api.Multi:
-		s.P = some(16)
-	case api.Univ:
-		s.P = number(8)
-	case api.Queue:
-		s.P, s.Q = some(32), number(4)
-	}
-	return s
-}
-
 // anyPlay makes a play of any objects, in which some calls are wrong, by picks in
 // bursts or one by one.
 func anyPlay(t *testing.T, number func(below int) int) played {
@@ -73,7 +49,7 @@ func anyPlay(t *testing.T, number func(below int) int) played {
 	}
 	var specs []api.Spec
 	for range 1 + number(3) {
-		specs = append(specs, anySpec(number))
+		specs = append(specs, trial.AnySpec(number))
 	}
 	if _, _, e := table.Lay(n, specs); e != api.OK {
 		t.Fatal(n, specs, e)

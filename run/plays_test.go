@@ -5,7 +5,6 @@ import (
 	"testing"
 
 	"roundelay/api"
-	"roundelay/bound"
 	"roundelay/run"
 	"roundelay/table"
 	"roundelay/trial"
@@ -106,19 +105,6 @@ func TestRespondedStays(t *testing.T) {
 	}
 }
 
-// mostOf returns the bound of a call: a call that there is no operation for makes
-// one step.
-func mostOf(n int, specs []api.Spec, c api.Call) int {
-	if c.Obj < 0 || c.Obj >= len(specs) {
-		return 1
-	}
-	most, e := bound.Most(n, specs[c.Obj], c.Kind)
-	if e != api.OK {
-		return 1
-	}
-	return most
-}
-
 // 25.4: no operation makes more steps than its bound, and one that does not respond
 // has made fewer; a thread that is picked so often afterwards responds.
 func TestBounds(t *testing.T) {
@@ -126,7 +112,7 @@ func TestBounds(t *testing.T) {
 		r := play(t, m.n, m.specs, m.calls, m.picks)
 		for _, x := range r.Events {
 			c := m.calls[x.Call]
-			most := mostOf(m.n, m.specs, c)
+			most := trial.MostSteps(m.n, m.specs, c)
 			if x.Steps > most || x.Resp == 0 && x.Steps == most {
 				t.Fatalf("%v: %v; the bound is %d", m, x, most)
 			}

@@ -4,6 +4,7 @@ import (
 	"slices"
 
 	"roundelay/api"
+	"roundelay/bound"
 	"roundelay/table"
 )
 
@@ -24,6 +25,30 @@ func SomeSpecs(number func(below int) int, count int) []api.Spec {
 		specs = append(specs, all[number(len(all))])
 	}
 	return specs
+}
+
+// AnySpec makes an object of any Kind, mostly with few records, entries, or places.
+func AnySpec(number func(below int) int) api.Spec {
+	some := func(most int) int {
+		if number(4) > 0 {
+			most = min(most, 4)
+		}
+		return 1 + number(most)
+	}
+	s := api.Spec{Kind: number(10), P: some(8), Q: some(64)}
+	switch s.Kind {
+	case api.Cell, api.Snap:
+		s.P = some(64)
+	case api.Max:
+		s.P = some(12)
+	case api.Multi:
+		s.P = some(16)
+	case api.Univ:
+		s.P = number(8)
+	case api.Queue:
+		s.P, s.Q = some(32), number(4)
+	}
+	return s
 }
 
 // CallsOn makes calls of operations of objects, by all threads.
@@ -63,6 +88,19 @@ func Spoiled(number func(below int) int, calls []api.Call) []api.Call {
 		}
 	}
 	return l
+}
+
+// MostSteps returns the bound of a call: one that there is no operation for makes
+// one step.
+func MostSteps(n int, specs []api.Spec, c api.Call) int {
+	if c.Obj < 0 || c.Obj >= len(specs) {
+		return 1
+	}
+	most, e := bound.Most(n, specs[c.Obj], c.Kind)
+	if e != api.OK {
+		return 1
+	}
+	return most
 }
 
 // Bursts makes picks: a thread is mostly picked several times one after the other,

@@ -230,3 +230,37 @@ func TestObjects(t *testing.T) {
 		t.Error(picks)
 	}
 }
+
+// Any object exists for every number of threads, and all Kinds of them come.
+func TestAnySpec(t *testing.T) {
+	number := trial.Numbers(6)
+	seen := [10]int{}
+	for range 2000 {
+		s := trial.AnySpec(number)
+		for n := 1; n <= api.MaxThreads; n++ {
+			if _, e := table.Size(n, s); e != api.OK {
+				t.Fatalf("%d threads, %v: %v", n, s, e)
+			}
+		}
+		seen[s.Kind]++
+	}
+	if slices.Min(seen[:]) < 100 {
+		t.Error(seen)
+	}
+}
+
+// Calls have the bounds of their operations; one that is refused at once makes a step.
+func TestMostSteps(t *testing.T) {
+	specs := []api.Spec{{Kind: api.Tally}, {Kind: api.Max, P: 7}}
+	for _, x := range []struct {
+		c    api.Call
+		want int
+	}{
+		{api.Call{}, 2}, {api.Call{Kind: 1}, 5}, {api.Call{Obj: 1}, 7},
+		{api.Call{Kind: 2}, 1}, {api.Call{Kind: -1}, 1}, {api.Call{Obj: 2}, 1}, {api.Call{Obj: -1}, 1},
+	} {
+		if most := trial.MostSteps(5, specs, x.c); most != x.want {
+			t.Errorf("%v: %d; want %d", x.c, most, x.want)
+		}
+	}
+}
